@@ -1,0 +1,1 @@
+"""Two strong ones before a weak judge: a house of hearings."""
