@@ -5,11 +5,12 @@ ALL_OF = 1
 SOME_OF = 2
 
 MOST_NODES = 20
-MOST_CHILDREN = 4
+MOST_IN_ROW = 4
 
 # Hundredths, and what three reads make of them, are whole numbers of millionths:
 # so all that is compared can be compared without fractions.
 WHOLE = 1000000
+HUNDREDTH = 10000
 
 
 class Node:
@@ -34,6 +35,33 @@ def new_branch(kind, children):
     return Node(kind, 0, 0, list(children))
 
 
+def copy_read(node, thrice):
+    """Another node just as this one, but read thrice or once as told."""
+    fresh = Node(node.kind, node.so, node.wrong, list(node.children))
+    fresh.price = node.price
+    fresh.thrice = thrice
+    return fresh
+
+
+def copies_read_by(nodes, reads):
+    """The same tree once more, but its leaves read by these reads."""
+    return [copy_read(node, thrice) for node, thrice in zip(nodes, reads)]
+
+
+def copies_of(nodes):
+    """The same tree once more: what is done to it leaves the first as it is."""
+    return [copy_read(node, node.thrice) for node in nodes]
+
+
+def are_nodes(nodes, row):
+    """Whether this row is 1 to 4 different nodes that there are."""
+    if len(row) < 1 or len(row) > MOST_IN_ROW:
+        return False
+    if len(set(row)) != len(row):
+        return False
+    return all([i < len(nodes) for i in row])
+
+
 def is_child(nodes, i):
     """Whether node i is another one's child."""
     return any([i in node.children for node in nodes])
@@ -41,11 +69,12 @@ def is_child(nodes, i):
 
 def may_be_children(nodes, row):
     """Whether a new node may have the nodes of this row as its children."""
-    if len(row) < 1 or len(row) > MOST_CHILDREN:
-        return False
-    if len(set(row)) != len(row):
-        return False
-    return all([i < len(nodes) and not is_child(nodes, i) for i in row])
+    return are_nodes(nodes, row) and not any([is_child(nodes, i) for i in row])
+
+
+def reads_now(nodes):
+    """Of each node whether it's read thrice now."""
+    return [node.thrice for node in nodes]
 
 
 def cost_of_all(nodes):
@@ -53,12 +82,12 @@ def cost_of_all(nodes):
     return sum([node.price for node in nodes if node.thrice])
 
 
-def misread_of(leaf):
-    """How often a leaf is misread, as it's read now, in millionths."""
+def misread_of(leaf, thrice):
+    """How often a leaf is misread, read thrice or once, in millionths."""
     wrong = leaf.wrong
-    if leaf.thrice:
+    if thrice:
         return 300 * wrong * wrong - 2 * wrong * wrong * wrong
-    return 10000 * wrong
+    return HUNDREDTH * wrong
 
 
 def truths(nodes):
@@ -76,38 +105,41 @@ def truths(nodes):
     return found
 
 
-def held_of_leaf(leaf):
-    """How often a leaf is held for true, in millionths."""
+def held_of_leaf(leaf, thrice):
+    """How often a leaf is held for true, read thrice or once, in millionths."""
     if leaf.so == 1:
-        return WHOLE - misread_of(leaf)
-    return misread_of(leaf)
+        return WHOLE - misread_of(leaf, thrice)
+    return misread_of(leaf, thrice)
 
 
-def all_held(nodes):
-    """Of each node how often it's held for true, in millionths."""
+def all_held(nodes, reads):
+    """Of each node how often it's held for true, leaves being read by these reads, in millionths."""
     found = []
-    for node in nodes:
-        below = [found[i] for i in node.children]
+    for node, thrice in zip(nodes, reads):
         if node.kind == LEAF:
-            found.append(held_of_leaf(node))
+            found.append(held_of_leaf(node, thrice))
         elif node.kind == ALL_OF:
-            found.append(min(below))
+            found.append(min([found[i] for i in node.children]))
         else:
-            found.append(max(below))
+            found.append(max([found[i] for i in node.children]))
     return found
 
 
-def right_of(nodes, i):
-    """How often who's right about node i wins, in millionths."""
-    held = all_held(nodes)[i]
-    if truths(nodes)[i]:
+def right_wins(true, held):
+    """How often who's right wins about what is true or not and is held so often, in millionths."""
+    if true:
         return held
     return WHOLE - held
 
 
+def right_of(nodes, i):
+    """How often who's right about node i wins, as leaves are read now, in millionths."""
+    return right_wins(truths(nodes)[i], all_held(nodes, reads_now(nodes))[i])
+
+
 def end_of(nodes, i):
     """The leaf at which a hearing about node i ends."""
-    held = all_held(nodes)
+    held = all_held(nodes, reads_now(nodes))
     at = i
     while nodes[at].kind != LEAF:
         # A node is held just as often as the child that's best for who picks,

@@ -29,6 +29,8 @@ def told(calls):
             numbers.extend(call[1 + plain])
         if len(call) != 1 + plain + with_row:
             raise ValueError(call)
+    if len(calls) > 60 or len(numbers) > 540:
+        raise ValueError("more calls than are ever handed in")
     return numbers
 
 

@@ -2,7 +2,6 @@
 
 import unittest
 
-from strongones.house import House, answer_to
 from telling import BIG, ask, behind
 
 # Nodes 0 to 2 are leaves, 3 is all of 0 and 1, 4 is some of 3 and 2.
@@ -33,11 +32,9 @@ class Begin(unittest.TestCase):
         self.assertEqual(found, [[0], [-2], [-6], [0], [1], [0, 1, 10], [2], [1], [1]])
 
     def test_puts_so_much_into_the_purse(self):
-        # None of these calls tells what is in the purse, so the house itself is looked at.
-        house = House()
-        for m, purse in ((77, 77), (10001, 77), (10000, 10000), (0, 0)):
-            answer_to(house, 0, [m])
-            self.assertEqual(house.purse, purse)
+        found = ask(("begin", 77), ("tally",), ("begin", 10001), ("tally",), ("begin", 10000), ("tally",), ("begin", 0),
+                    ("tally",))
+        self.assertEqual([answer[2] for answer in found[1::2]], [77, 77, 10000, 0])
 
 
 class Leaf(unittest.TestCase):
@@ -235,37 +232,49 @@ class Ends(unittest.TestCase):
 
 
 class NoSuchNode(unittest.TestCase):
-    NAMES = ("nodeis", "flip", "thrice", "once", "misread", "is_true", "right", "ends")
+    NAMES = ("nodeis", "flip", "thrice", "once", "misread", "is_true", "right", "ends", "tightest")
 
     def test_is_refused_by_each_call_about_a_node(self):
         for name in self.NAMES:
             self.assertEqual(behind([], (name, 0), (name, BIG)), [[-2], [-2]])
             self.assertEqual(behind(SETTING, (name, 5), (name, BIG), ("pop",), (name, 4)), [[-2], [-2], [4], [-2]])
-        self.assertEqual(behind([], ("price", 0, 1)), [[-2]])
-        self.assertEqual(behind(SETTING, ("price", 5, 1), ("price", BIG, BIG)), [[-2], [-2]])
+        for name, *more in (("price", 1), ("promise", 0), ("hear", 0, 1), ("ifhear", 0, 1), ("stakes", 1)):
+            self.assertEqual(behind([], (name, 0, *more)), [[-2]])
+            self.assertEqual(behind(SETTING, (name, 5, *more), (name, BIG, *more), (name, 5, *[BIG] * len(more))),
+                             [[-2]] * 3)
 
 
 class Refused(unittest.TestCase):
     """Whatever is refused, all that comes behind it is answered as if it hadn't been called."""
 
-    HISTORY = SETTING + [("leaf", 0, 45), ("thrice", 0), ("thrice", 5), ("price", 0, 6), ("price", 5, 30)]
+    # Leaf 6 is misread more than half the time: read thrice it would break the last promise.
+    HISTORY = SETTING + [("leaf", 0, 45), ("leaf", 1, 60), ("thrice", 0), ("thrice", 5), ("price", 0, 6),
+                         ("price", 5, 30), ("hear", 4, 1, 2), ("hear", 0, 0, 1), ("promise", 0, 97),
+                         ("promise", 1, 80), ("promise", 6, 40)]
     REFUSED = [
         ("begin", 10001), ("leaf", 2, 5), ("leaf", 0, 101), ("all_of", []), ("all_of", [4, 4]), ("all_of", [0, 5]),
-        ("some_of", [6]), ("some_of", [4, 5, 3]), ("nodeis", 6), ("flip", 6), ("flip", 4), ("price", 6, 5),
-        ("price", 5, 0), ("price", 0, 101), ("thrice", 6), ("thrice", 3), ("thrice", 0), ("once", 6), ("once", 1),
-        ("once", 3), ("misread", 6), ("misread", 3), ("is_true", 6), ("right", 6), ("ends", 6),
+        ("some_of", [7]), ("some_of", [4, 5, 3]), ("pop",), ("nodeis", 7), ("flip", 7), ("flip", 4), ("price", 7, 5),
+        ("price", 5, 0), ("price", 0, 101), ("thrice", 7), ("thrice", 3), ("thrice", 0), ("thrice", 6), ("once", 7),
+        ("once", 1), ("once", 3), ("once", 0), ("misread", 7), ("misread", 3), ("is_true", 7), ("right", 7),
+        ("ends", 7), ("cheapest", 101, [0]), ("cheapest", 0, []), ("cheapest", 0, [7]), ("cheapest", 99, [0]),
+        ("buy", 101, [0]), ("buy", 0, [1, 1]), ("buy", 99, [0]), ("buy", 0, [1]), ("buy", 60, [5]), ("promise", 7, 0),
+        ("promise", 0, 101), ("promise", 0, 97), ("promise", 0, 98), ("unpromise", 3), ("promiseis", 3),
+        ("tightest", 7), ("hear", 7, 0, 1), ("hear", 0, 1, 1), ("hear", 0, 0, 1001), ("hear", 5, 1, 2),
+        ("ifhear", 7, 0, 1), ("ifhear", 0, 1, 1), ("entry", 2), ("pay", 10001), ("stakes", 7, 1), ("stakes", 0, 1001),
+        ("stakes", 6, 1),
     ]
     LOOKS = [
-        [(name, i) for i in range(6) for name in ("nodeis", "misread", "is_true", "right", "ends")],
-        [("price", i, 1) for i in range(6)] + [("thrice", i) for i in range(6)] + [("once", i) for i in range(6)],
-        [("all_of", [i]) for i in range(6)] + [("pop",)] * 9,
+        [(name, i) for i in range(7) for name in ("nodeis", "misread", "is_true", "right", "ends")],
+        [("tally",), ("owed",)] + [("entry", k) for k in range(3)] + [("promiseis", k) for k in range(4)],
+        [("price", i, 1) for i in range(7)] + [("unpromise", 0)] * 4 + [("once", i) for i in range(7)],
+        [("unpromise", 0)] * 3 + [("all_of", [i]) for i in range(7)] + [("pop",)] * 10,
     ]
 
     def test_changes_nothing(self):
         for look in self.LOOKS:
-            plain = behind(self.HISTORY, *look)
+            plain = ask(("begin", 25), *self.HISTORY, *look)[1 + len(self.HISTORY):]
             for call in self.REFUSED:
-                found = behind(self.HISTORY, call, *look)
+                found = ask(("begin", 25), *self.HISTORY, call, *look)[1 + len(self.HISTORY):]
                 self.assertLess(found[0][0], 0, call)
                 self.assertEqual(len(found[0]), 1, call)
                 self.assertEqual(found[1:], plain, call)

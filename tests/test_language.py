@@ -23,6 +23,9 @@ NODES_OUT = (ast.With, ast.Match, ast.Delete, ast.Global, ast.Nonlocal, ast.Asse
              ast.AsyncFunctionDef, ast.AsyncFor, ast.AsyncWith, ast.SetComp, ast.DictComp, ast.GeneratorExp,
              ast.NamedExpr, ast.Starred, ast.Div, ast.MatMult, ast.Import)
 
+WALKED = ("zip", "enumerate", "reversed", "range", "items", "keys", "values")
+WALKERS = ("list", "tuple", "dict", "sorted", "sum", "any", "all", "enumerate", "zip", "min", "max")
+
 
 def files():
     return sorted(path for path in PACKAGE.rglob("*") if path.is_file() and "__pycache__" not in path.parts)
@@ -91,6 +94,53 @@ class Language(unittest.TestCase):
         for where, node in self.each_node():
             if isinstance(node, ast.Call) and isinstance(node.func, ast.Attribute):
                 self.assertTrue(node.func.attr in OWN_METHODS or node.func.attr in own, where)
+
+    def test_walked_at_once(self):
+        for path in files():
+            tree = ast.parse(path.read_text())
+            allowed = []
+            for node in ast.walk(tree):
+                if isinstance(node, (ast.For, ast.comprehension)):
+                    allowed.append(node.iter)
+                if isinstance(node, ast.Call) and isinstance(node.func, ast.Name) and node.func.id in WALKERS:
+                    allowed.extend(node.args[:1])
+            for node in ast.walk(tree):
+                if isinstance(node, ast.Call) and ast.unparse(node.func).split(".")[-1] in WALKED:
+                    self.assertIn(node, allowed, f"{path.name}:{node.lineno}")
+
+    def test_no_local_is_called_like_an_import_or_a_class(self):
+        for path in files():
+            tree = ast.parse(path.read_text())
+            taken = [name.name for node in tree.body if isinstance(node, ast.ImportFrom) for name in node.names]
+            taken += [node.name for node in tree.body if isinstance(node, (ast.ClassDef, ast.FunctionDef))]
+            self.assertEqual(len(taken), len(set(taken)), path)
+            for node in ast.walk(tree):
+                if isinstance(node, ast.arg) or isinstance(node, ast.Name) and isinstance(node.ctx, ast.Store):
+                    name = node.arg if isinstance(node, ast.arg) else node.id
+                    self.assertNotIn(name, taken, f"{path.name}:{node.lineno}")
+
+    def test_imports_are_drawn_from_where_they_are_defined_and_in_no_ring(self):
+        drawn, defined = {}, {}
+        for path in files():
+            tree = ast.parse(path.read_text())
+            name = f"strongones.{path.stem}"
+            rows = [node for node in tree.body if isinstance(node, ast.ImportFrom)]
+            drawn[name] = [(row.module, alias.name) for row in rows for alias in row.names]
+            defined[name] = [getattr(node, "name", None) or node.targets[0].id for node in tree.body
+                             if isinstance(node, (ast.FunctionDef, ast.ClassDef, ast.Assign))]
+        for name, pairs in drawn.items():
+            for module, what in pairs:
+                self.assertIn(what, defined[module], name)
+        done = []
+        while len(done) < len(drawn):
+            ready = [name for name in drawn if name not in done and all(pair[0] in done for pair in drawn[name])]
+            self.assertTrue(ready, "files that draw from one another")
+            done.extend(ready)
+
+    def test_powers_have_a_written_exponent(self):
+        for where, node in self.each_node():
+            if isinstance(node, ast.BinOp) and isinstance(node.op, ast.Pow):
+                self.assertIsInstance(node.right, ast.Constant, where)
 
 
 if __name__ == "__main__":
